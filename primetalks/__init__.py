@@ -1,0 +1,1 @@
+"""Primetalks: talks that nest, and programs that keep them."""

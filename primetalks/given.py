@@ -1,0 +1,54 @@
+"""What functions are given: each is told as it is kept, or the error for it is raised."""
+
+from primetalks.books import Book
+from primetalks.errors import BadBook, BadLetter, BadProgram, BadRow, BadWord
+from primetalks.forms import is_letter, is_list
+from primetalks.programs import Program
+
+
+def given_book(book):
+    """BadBook for what is no Book."""
+    if not isinstance(book, Book):
+        raise BadBook(book)
+
+
+def given_program(program):
+    """BadProgram for what is no Program."""
+    if not isinstance(program, Program):
+        raise BadProgram(program)
+
+
+def is_talk(book, thing):
+    """Whether a thing is the name of a talk of the book."""
+    return isinstance(thing, str) and thing in book.rule_table
+
+
+def is_row(book, thing):
+    """Whether a thing is a row of the book."""
+    return is_list(thing) and all([is_talk(book, name) for name in thing])
+
+
+def given_row(book, row):
+    """A row of the book as a tuple, BadRow for what is none."""
+    if not is_list(row):
+        raise BadRow(0)
+    for index, name in enumerate(row):
+        if not is_talk(book, name):
+            raise BadRow(index)
+    return tuple(row)
+
+
+def given_word(word):
+    """A word as a list, BadWord for what is none."""
+    if not is_list(word):
+        raise BadWord(0)
+    for index, letter in enumerate(word):
+        if not is_letter(letter):
+            raise BadWord(index)
+    return list(word)
+
+
+def given_letter(letter):
+    """BadLetter for what is no letter."""
+    if not is_letter(letter):
+        raise BadLetter(letter)
