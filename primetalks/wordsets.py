@@ -88,13 +88,14 @@ class WordSets:
         return word
 
     def number_of(self, words, word):
-        """How many words of a set are ahead of a word, as lists compare; None for none of the set."""
+        """How many words of a set are ahead of a word, as lists compare; None for none of the set.
+
+        The word has not more letters than those of the set.
+        """
         number = 0
         many = self.count(words)
         left = list(words[::-1])
         for letter in word:
-            if not left:
-                return None
             part = left.pop()
             many = many // self.counts[part]
             tails = [tail for other, tail in self.parts[part] if other == letter]

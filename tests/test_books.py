@@ -75,7 +75,8 @@ class BookTest(TalkCase):
 
     def test_bad_rules(self):
         bad = [[], (), None, "ab", {}, [("a", [], [])], [("a",)], ["ab"], [("a", "")], [("a", None)], [("a", {})],
-               [("a", []), ("a", [])], [("a", []), ("b", []), ["a", ()]], [("a", ["x"]), ("a", ("x",))], [None]]
+               [("a", []), ("a", [])], [("a", []), ("b", []), ["a", ()]], [("a", ["x"]), ("a", ("x",))], [None], 5, True,
+               {("a", ()): 0}, "a", len, Book([])]
         for rules in bad:
             self.refused(BadTalks, {"index": 0}, Book, [("x", rules)])
         for pair in (("x",), ("x", [("a", [])], 0), ("x", "ab"), "xy", {"x": [("a", [])], "y": 0}):

@@ -100,6 +100,11 @@ class BookFaultTest(TalkCase):
         self.assertTrue(book_goes_on(lines + "talk abcdefg").startswith(lines + "talk abcdefg:"))
         lines += "talk abcdefg: a\n"
         self.assertEqual(book_fault(lines + "talk abcdefg"), (38, 12))
+        for sign in ("a", "k", "9"):
+            rest = lines.replace(f"talk abcdefg{sign}: a\n", "")
+            self.assertEqual(book_goes_on(rest + "talk abcdefg"), rest + f"talk abcdefg{sign}: a\n")
+            self.assertEqual(book_fault(rest + "talk abcdefg:"), (37, 13))
+            self.assertEqual(book_fault(rest + "talk abcdefg0:"), (37, 13 if sign != "0" else 14))
         self.assertIsNone(book_goes_on(lines + "talk abcdefg"))
         self.assertTrue(book_goes_on(lines + "talk abcdef").startswith(lines + "talk abcdef"))
 

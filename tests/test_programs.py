@@ -66,7 +66,9 @@ class ProgramTest(TalkCase):
             self.refused(BadProcs, {"index": 0}, Program, with_body([("hear", [("a", []), (thing, [])])]))
 
     def test_bad_commands_at_every_depth(self):
-        bad = [("say",), ("say", "a", "b"), ("do",), ("ask", "a"), ("say", ["a"]), ("hear", []), ("hear", ()),
+        bad = [("say",), ("say", "a", "b"), ("do",), ("ask", "a"), ("ask", [("a", [])]), ("ask", [[]]),
+               ("pick", [("a", [])]), ("hear", [[]]), ("hear", "a"), ("say", [[]]), ("do", [("a", [])]),
+               ("hear", 5), ("hear", {("a", ()): 0}), ("pick", 5), ("pick", {(): 0}), ("pick", len), ("pick", "ab"), ("say", ["a"]), ("hear", []), ("hear", ()),
                ("hear", None), ("hear", "ab"), ("hear", [("a", [], [])]), ("hear", [("a",)]), ("hear", ["ab"]),
                ("hear", [("a", []), ("a", [])]), ("hear", [("a", []), ("b", []), ["a", [("say", "a")]]]),
                ("hear", [("a", None)]), ("hear", {"a": []}), ("pick", []), ("pick", ()), ("pick", None),
