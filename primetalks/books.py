@@ -10,6 +10,8 @@ class Book:
 
     rule_table is the ascending dict from names to ascending tuples of rules, each a pair of a letter
     and a tuple of names. Being of tuples, the rules can be handed on without a copy.
+    kept is a dict of what has been worked out of the book, which is so once for all, as the book never
+    changes. Nothing of it is told but as a copy.
     """
 
     def __init__(self, talks):
@@ -21,6 +23,7 @@ class Book:
         if stuck:
             raise NoEnd(stuck[0])
         self.rule_table = {name: found[name] for name in sorted(found)}
+        self.kept = {}
 
     def talks(self):
         """The ascending list of the pairs (name, rules)."""

@@ -1,8 +1,8 @@
 """What functions are given: each is told as it is kept, or the error for it is raised."""
 
 from primetalks.books import Book
-from primetalks.errors import BadBook, BadLetter, BadProgram, BadRow, BadWord
-from primetalks.forms import is_letter, is_list
+from primetalks.errors import BadBook, BadLetter, BadNumber, BadProgram, BadRow, BadRows, BadSecond, BadWord
+from primetalks.forms import is_letter, is_list, is_number
 from primetalks.programs import Program
 
 
@@ -10,6 +10,12 @@ def given_book(book):
     """BadBook for what is no Book."""
     if not isinstance(book, Book):
         raise BadBook(book)
+
+
+def given_second(second):
+    """BadSecond for what is no Book, as the second one."""
+    if not isinstance(second, Book):
+        raise BadSecond(second)
 
 
 def given_program(program):
@@ -36,6 +42,22 @@ def given_row(book, row):
         if not is_talk(book, name):
             raise BadRow(index)
     return tuple(row)
+
+
+def given_rows(book, rows):
+    """Rows of the book as a list of tuples, BadRows for what is none."""
+    if not is_list(rows):
+        raise BadRows(0)
+    for index, row in enumerate(rows):
+        if not is_row(book, row):
+            raise BadRows(index)
+    return [tuple(row) for row in rows]
+
+
+def given_number(number):
+    """BadNumber for what is no number."""
+    if not is_number(number):
+        raise BadNumber(number)
 
 
 def given_word(word):

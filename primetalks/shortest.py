@@ -3,16 +3,17 @@
 from primetalks.errors import BadNumber, NotShortest
 from primetalks.forms import is_number
 from primetalks.given import given_book, given_row, given_word
-from primetalks.norms import lessening_rules, norms_of
-from primetalks.wordsets import sets_of_talks
+from primetalks.norms import lessening_of, norms_of
+from primetalks.wordsets import TalkSets
 
 
 def shortest_end(book, row):
     """The first of the shortest words of a row."""
     given_book(book)
     start = given_row(book, row)
-    firsts = {}
-    for name, rules in shortest_rules(book, start).items():
+    firsts = book.kept.setdefault("firsts", {})
+    lacking = lacking_rules(book, start, firsts)
+    for name, rules in lacking.items():
         # all of these are equally long, so that the first one is put together of first ones
         firsts[name] = min([[letter] + one_behind_another(firsts, to) for letter, to in rules])
     return one_behind_another(firsts, start)
@@ -22,22 +23,20 @@ def count_shortest(book, row):
     """How many shortest words a row has."""
     given_book(book)
     start = given_row(book, row)
-    lots, sets = sets_of_talks(shortest_rules(book, start))
-    return product_of(talk_counts(lots, sets), start)
+    return product_of(sets_for(book, start).counts, start)
 
 
 def shortest_at(book, row, number):
     """The shortest word of a row that has so many ahead of it."""
     given_book(book)
     start = given_row(book, row)
-    lots, sets = sets_of_talks(shortest_rules(book, start))
-    counts = talk_counts(lots, sets)
-    if not is_number(number) or number >= product_of(counts, start):
+    sets = sets_for(book, start)
+    if not is_number(number) or number >= product_of(sets.counts, start):
         raise BadNumber(number)
     words = []
     for name in start[::-1]:
-        number, here = divmod(number, counts[name])
-        words.append(lots.word_at(sets[name], here))
+        number, here = divmod(number, sets.counts[name])
+        words.append(sets.talk_word(name, here))
     return [letter for word in words[::-1] for letter in word]
 
 
@@ -47,45 +46,52 @@ def shortest_number(book, row, word):
     start = given_row(book, row)
     letters = given_word(word)
     longs = norms_of(book)
-    lots, sets = sets_of_talks(shortest_rules(book, start))
-    counts = talk_counts(lots, sets)
+    sets = sets_for(book, start)
     number = 0
     at = 0
     for name in start:
-        here = lots.number_of(sets[name], letters[at:at + longs[name]])
+        here = sets.talk_number(name, letters[at:at + longs[name]])
         if here is None:
             raise NotShortest(letters)
-        number = number * counts[name] + here
+        number = number * sets.counts[name] + here
         at = at + longs[name]
     if at < len(letters):
         raise NotShortest(letters)
     return number
 
 
-def shortest_rules(book, row):
+def sets_for(book, row):
+    """The TalkSets of a book, with all talks of a row in it."""
+    if "shortest" not in book.kept:
+        book.kept["shortest"] = TalkSets()
+    sets = book.kept["shortest"]
+    lacking = lacking_rules(book, row, sets.counts)
+    for name, rules in lacking.items():
+        sets.enter(name, rules)
+    return sets
+
+
+def lacking_rules(book, row, known):
     """The dict from the talks of a row, and of what comes of it, to their rules that make the norm one less.
 
-    It goes by norms, so that each talk stands behind all that are in its rules.
+    Of those alone that are not known yet: where a talk is known, so is all that comes of it. The dict goes by
+    norms, so that each talk stands behind all that are in its rules.
     """
-    numbers = norms_of(book)
+    rules = lessening_of(book)
     found = {}
-    todo = list(row)
+    todo = [name for name in row if name not in known]
     while todo:
         name = todo.pop()
         if name not in found:
-            found[name] = lessening_rules(book, numbers, name)
-            todo.extend([other for _, to in found[name] for other in to])
+            found[name] = rules[name]
+            todo.extend([other for _, to in rules[name] for other in to if other not in known])
+    numbers = norms_of(book)
     return {name: found[name] for _, name in sorted([(numbers[name], name) for name in found])}
 
 
 def one_behind_another(words, row):
     """The words of the talks of a row, one behind another."""
     return [letter for name in row for letter in words[name]]
-
-
-def talk_counts(lots, sets):
-    """The dict from talks to how many words their sets have."""
-    return {name: lots.count(sets[name]) for name in sets}
 
 
 def product_of(counts, row):

@@ -1,7 +1,7 @@
 """Steps of rows."""
 
 from primetalks.given import given_book, given_letter, given_row
-from primetalks.norms import lessening_rules, norms_of
+from primetalks.norms import lessening_of
 
 
 def steps_of(book, row):
@@ -24,7 +24,7 @@ def lessening(book, row):
     start = given_row(book, row)
     if not start:
         return []
-    return told_steps(steps_by(lessening_rules(book, norms_of(book), start[0]), start))
+    return told_steps(steps_by(lessening_of(book)[start[0]], start))
 
 
 def steps_from(book, row):
@@ -39,4 +39,9 @@ def steps_by(rules, row):
 
 def told_steps(steps):
     """Steps with the rows as lists."""
-    return [(letter, list(to)) for letter, to in steps]
+    return [told_step(letter, to) for letter, to in steps]
+
+
+def told_step(letter, to):
+    """A step, or a rule, with the row as a list."""
+    return (letter, list(to))

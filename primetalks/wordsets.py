@@ -6,14 +6,21 @@ word of the set behind it; these sets have no ending in common. As each set of w
 of such parts in just one way, two sets have the same words just if they are equal.
 """
 
+from primetalks.sequences import common_ending, common_start
+
 
 class WordSets:
-    """All parts of which sets of words are made, numbered as they come, and how many words each has."""
+    """All parts of which sets of words are made, numbered as they come, and how many words each has.
+
+    ways has for each part the dict from its letters, ascending, to how many words of it are ahead of this
+    letter, how many begin with it, and the set behind it the other way round.
+    """
 
     def __init__(self):
         self.parts = []
         self.numbers = {}
         self.counts = []
+        self.ways = []
         self.unions = {}
 
     def count(self, words):
@@ -30,8 +37,19 @@ class WordSets:
         if part not in self.numbers:
             self.numbers[part] = len(self.parts)
             self.parts.append(part)
-            self.counts.append(sum([self.count(tail) for _, tail in part]))
+            self.enter_ways(part)
         return (self.numbers[part],) + ending
+
+    def enter_ways(self, part):
+        """Put down how many words begin with each letter of a new part, and how many words it has."""
+        ways = {}
+        ahead = 0
+        for letter, tail in part:
+            many = self.count(tail)
+            ways[letter] = (ahead, many, tail[::-1])
+            ahead = ahead + many
+        self.ways.append(ways)
+        self.counts.append(ahead)
 
     def unite(self, sets):
         """The set of all words of these sets, whose words all have one length."""
@@ -77,14 +95,13 @@ class WordSets:
         while left:
             part = left.pop()
             many = many // self.counts[part]
-            for letter, tail in self.parts[part]:
-                here = many * self.count(tail)
-                if number < here:
+            for letter, (ahead, here, tail) in self.ways[part].items():
+                if number < many * (ahead + here):
+                    word.append(letter)
+                    number = number - many * ahead
+                    many = many * here
+                    left.extend(tail)
                     break
-                number = number - here
-            word.append(letter)
-            many = here
-            left.extend(tail[::-1])
         return word
 
     def number_of(self, words, word):
@@ -97,35 +114,45 @@ class WordSets:
         left = list(words[::-1])
         for letter in word:
             part = left.pop()
-            many = many // self.counts[part]
-            tails = [tail for other, tail in self.parts[part] if other == letter]
-            if not tails:
+            if letter not in self.ways[part]:
                 return None
-            number = number + many * sum([self.count(tail) for other, tail in self.parts[part] if other < letter])
-            many = many * self.count(tails[0])
-            left.extend(tails[0][::-1])
+            ahead, here, tail = self.ways[part][letter]
+            many = many // self.counts[part]
+            number = number + many * ahead
+            many = many * here
+            left.extend(tail)
         return None if left else number
+
+
+class TalkSets:
+    """The sets of the words that rules of talks make, by the names of these talks, and how many words they are."""
+
+    def __init__(self):
+        self.lots = WordSets()
+        self.sets = {}
+        self.counts = {}
+
+    def enter(self, name, rules):
+        """Put down the set of a talk with these rules; the talks in their rows are there."""
+        tails = {}
+        for letter, row in rules:
+            behind = tuple([part for other in row for part in self.sets[other]])
+            tails.setdefault(letter, []).append(behind)
+        self.sets[name] = self.lots.begin_by({letter: self.lots.unite(tails[letter]) for letter in tails})
+        self.counts[name] = self.lots.count(self.sets[name])
+
+    def talk_word(self, name, number):
+        """The word of a talk that has so many ahead of it."""
+        return self.lots.word_at(self.sets[name], number)
+
+    def talk_number(self, name, word):
+        """How many words of a talk are ahead of a word, which is not longer than these; None for none of them."""
+        return self.lots.number_of(self.sets[name], word)
 
 
 def unlike(sets):
     """A lot of sets, each once, ascending."""
     return tuple(sorted(set(sets)))
-
-
-def common_start(sets):
-    """The longest tuple with which all of the sets begin."""
-    start = sets[0]
-    for words in sets:
-        many = 0
-        while many < min(len(start), len(words)) and start[many] == words[many]:
-            many += 1
-        start = start[:many]
-    return start
-
-
-def common_ending(sets):
-    """The longest tuple with which all of the sets end."""
-    return common_start([words[::-1] for words in sets])[::-1]
 
 
 def middles(sets):
@@ -134,19 +161,3 @@ def middles(sets):
     rests = [words[many:] for words in sets]
     less = len(common_ending(rests))
     return [words[:len(words) - less] for words in rests]
-
-
-def sets_of_talks(rules):
-    """A WordSets, and the dict from talks to the sets of the words that their rules make.
-
-    rules is a dict from the talks to their rules; each talk stands behind all that are in its rules.
-    """
-    lots = WordSets()
-    found = {}
-    for name in rules:
-        tails = {}
-        for letter, row in rules[name]:
-            behind = tuple([part for other in row for part in found[other]])
-            tails.setdefault(letter, []).append(behind)
-        found[name] = lots.begin_by({letter: lots.unite(tails[letter]) for letter in tails})
-    return lots, found

@@ -1,7 +1,9 @@
 """What the tests share: the examples of the document, many small books, and other objects of all kinds."""
 
+import inspect
 import random
 import unittest
+from itertools import product
 
 from primetalks.books import Book
 from primetalks.errors import BadBook, NoTalk, TalkError
@@ -87,6 +89,39 @@ def as_tuples(thing):
     return thing
 
 
+def copied(thing):
+    """The thing with new lists and dicts at every depth."""
+    if isinstance(thing, list):
+        return [copied(part) for part in thing]
+    if isinstance(thing, tuple):
+        return tuple([copied(part) for part in thing])
+    if isinstance(thing, dict):
+        return {key: copied(thing[key]) for key in thing}
+    return thing
+
+
+def written(thing):
+    """All of a thing as a string: kinds and order count, and books are told by their talks."""
+    if isinstance(thing, Book):
+        return "Book" + repr(thing.talks())
+    if isinstance(thing, (list, tuple)):
+        return thing.__class__.__name__ + "(" + ", ".join([written(part) for part in thing]) + ")"
+    if isinstance(thing, dict):
+        return "dict(" + ", ".join([f"{key!r}: {written(thing[key])}" for key in thing]) + ")"
+    return repr(thing)
+
+
+def turned_dicts(thing):
+    """The thing with all dicts in the other order, at every depth."""
+    if isinstance(thing, list):
+        return [turned_dicts(part) for part in thing]
+    if isinstance(thing, tuple):
+        return tuple([turned_dicts(part) for part in thing])
+    if isinstance(thing, dict):
+        return {key: turned_dicts(thing[key]) for key in list(thing)[::-1]}
+    return thing
+
+
 def spoil(thing):
     """Change all lists and dicts of a thing at every depth."""
     if isinstance(thing, (list, tuple)):
@@ -139,6 +174,47 @@ def small_books(many, seed, **shape):
     return [Book(random_talks(rng, rng.randint(1, 4), **shape)) for _ in range(many)]
 
 
+def put_for(rng, row, part, name):
+    """A row in which, here and there, the name stands in the place of a part."""
+    found = []
+    at = 0
+    while at < len(row):
+        if row[at:at + len(part)] == part and rng.random() < 0.5:
+            found.append(name)
+            at += len(part)
+        else:
+            found.append(row[at])
+            at += 1
+    return found
+
+
+def composed_book(rng, **shape):
+    """A small book with talks more that are each alike to a row of the others."""
+    talks = random_talks(rng, rng.randint(1, 3), **shape)
+    for name in rng.sample(["a", "b", "zz"], rng.randint(1, 3)):
+        rules = dict(talks)
+        part = [rng.choice(sorted(rules)) for _ in range(rng.randint(1, 3))]
+        # the talk more goes as part does; where part stands in what comes of it, the talk may stand itself
+        more = {(letter, tuple(put_for(rng, list(to) + part[1:], part, name))) for letter, to in rules[part[0]]}
+        talks = [(other, [(letter, put_for(rng, to, part, name)) for letter, to in rules[other]]) for other in rules]
+        talks = [(other, [rule for at, rule in enumerate(told) if rule not in told[:at]]) for other, told in talks]
+        talks.append((name, [(letter, list(to)) for letter, to in sorted(more)]))
+    rng.shuffle(talks)
+    return Book(talks)
+
+
+def composed_books(many, seed, **shape):
+    """Many small books with talks that are alike to rows of others, the same ones each time."""
+    rng = random.Random(seed)
+    return [composed_book(rng, **shape) for _ in range(many)]
+
+
+def all_rows(book, most):
+    """All rows of a book with at most so many talks."""
+    names = [name for name, _ in book.talks()]
+    return [list(row) for many in range(most + 1) for row in product(names, repeat=many)]
+
+
 def random_row(rng, book, most):
     """A row of a book."""
     names = [name for name, _ in book.talks()]
@@ -166,6 +242,50 @@ class TalkCase(unittest.TestCase):
         for thing in any_objects():
             if not isinstance(thing, Book):
                 self.refused(BadBook, {"thing": thing}, work, thing, *behind, **named)
+
+    def check_call(self, work, right, wrongs=()):
+        """Check a call by the dict of its right arguments, in order, and what is wrong of some, in order.
+
+        It is told alike by place and by name, of lists and of tuples, of dicts in whatever order; what it tells is
+        new and has no part in two places; what is passed is left as it is, and may be changed behind the call.
+        wrongs are tuples (name, thing, error, held): of two that are wrong the earlier one is raised.
+        """
+        names = list(right)
+        self.assertEqual(list(inspect.signature(work).parameters), names)
+        told = work(*copied(list(right.values())))
+        for like in (copied, as_lists, as_tuples, turned_dicts):
+            passed = {name: like(right[name]) for name in names}
+            kept = copied(passed)
+            self.assertEqual(work(**{name: passed[name] for name in names[::-1]}), told)
+            again = work(*passed.values())
+            self.assertEqual(again, told)
+            self.assertEqual(written(again), written(told))
+            self.assertEqual(passed, kept)
+            self.assertFalse(shared_parts([told, again] + list(passed.values())))
+            spoil(again)
+            spoil(passed)
+        self.assertEqual(work(**copied(right)), told)
+        for at, (name, thing, error, held) in enumerate(wrongs):
+            for later in [()] + [wrong[:2] for wrong in wrongs[at + 1:]]:
+                passed = {**right, **dict([later] if later else []), name: thing}
+                self.refused(error, held, work, *passed.values())
+                self.refused(error, held, work, **{other: passed[other] for other in names[::-1]})
+
+    def bad_rows(self, error, work, right, name):
+        """Check that work refuses what is no row of B in the place of one of its right arguments."""
+        for thing in no_lists():
+            self.refused(error, {"index": 0}, work, **{**right, name: thing})
+        for thing in any_objects() + ["nobody", "X", ["x"]]:
+            if thing != "x":
+                self.refused(error, {"index": 0}, work, **{**right, name: [thing]})
+                self.refused(error, {"index": 2}, work, **{**right, name: ("x", "y", thing, thing)})
+
+    def bad_numbers(self, error, work, right, name, over=None):
+        """Check that work refuses what is no number, or none below over, in the place of a right argument."""
+        for thing in any_objects() + [-1, "1", [1], 10 ** 30, over]:
+            number = isinstance(thing, int) and not isinstance(thing, bool) and thing >= 0
+            if not number or over is not None and thing >= over:
+                self.refused(error, {"thing": thing}, work, **{**right, name: thing})
 
     def told_anew(self, work, *passed):
         """Check that what work tells is told anew each time and has no part in two places."""

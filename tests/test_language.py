@@ -15,6 +15,7 @@ split splitlines startswith strip update upper values zfill bit_length""".split(
 BARRED = """register mro elements open input law version_info with_traceback add_note type typing enum Enum namedtuple
 dataclass overload contextmanager globals locals exec eval compile getattr setattr hasattr vars dir id""".split()
 SPECIAL = ["__init__", "__eq__"]
+LIBRARY = {"heapq": ["heappush", "heappop"], "math": ["gcd"]}
 INTERFACE = {
     "books": ["Book"], "programs": ["Program"],
     "booktexts": ["book_text", "read_book", "book_fault", "book_goes_on"],
@@ -27,6 +28,18 @@ INTERFACE = {
     "norms": ["norm", "norms", "norms_fault"],
     "sides": ["mirrored", "is_simple", "is_sided"],
     "shortest": ["shortest_end", "count_shortest", "shortest_at", "shortest_number"],
+    "levels": ["alike_to", "depth_apart", "lots_to"],
+    "plans": ["plan_fault", "is_plan", "plan_depth", "plan_for", "played", "count_plays"],
+    "tables": ["word_by", "table_fault", "is_table"],
+    "rounds": ["way_down", "rounds", "rounds_fault", "is_rounds", "parts_at"],
+    "primes": ["prime_table", "primes", "prime_row", "is_prime", "alike", "why_prime"],
+    "parts": ["without_left", "without_right", "common_left", "common_right", "places_in"],
+    "roots": ["root", "common_root", "may_change"],
+    "turning": ["turn_of", "least_turn", "leader"],
+    "codes": ["strung", "is_strung", "count_strings", "string_at", "string_number"],
+    "joining": ["joined", "renamed", "talks_from", "only_from"],
+    "across": ["alike_across", "changed_talk"],
+    "least": ["ranks", "least_book", "prime_book"],
 }
 
 
@@ -105,7 +118,9 @@ class LanguageTest(unittest.TestCase):
             ahead[name[:-3]] = []
             for node in ast.walk(tree):
                 self.assertNotIsInstance(node, ast.Import, name)
-                if isinstance(node, ast.ImportFrom):
+                if isinstance(node, ast.ImportFrom) and node.module in LIBRARY:
+                    self.check_library(tree, node)
+                elif isinstance(node, ast.ImportFrom):
                     self.assertRegex(node.module, r"^primetalks\.[a-z]+$")
                     ahead[name[:-3]].append(node.module[11:])
                     for alias in node.names:
@@ -119,7 +134,18 @@ class LanguageTest(unittest.TestCase):
             self.assertTrue(more, "files import from each other")
             done.extend(more)
 
+    def check_library(self, tree, node):
+        """What a file imports from the library is only called, by its bare name and in functions."""
+        called = [part.func for function in tree.body if isinstance(function, ast.FunctionDef)
+                  for part in ast.walk(function) if isinstance(part, ast.Call) and not part.keywords]
+        for alias in node.names:
+            self.assertIsNone(alias.asname)
+            self.assertIn(alias.name, LIBRARY[node.module])
+            used = [part for part in ast.walk(tree) if isinstance(part, ast.Name) and part.id == alias.name]
+            self.assertTrue(used and all(part in called for part in used), (node.module, alias.name))
+
     def test_the_interface_is_defined_where_it_is_listed(self):
+        self.assertEqual([name for name in INTERFACE if name + ".py" not in os.listdir(TOP)], [])
         for name, tree in trees():
             own = [node.name for node in tree.body if isinstance(node, (ast.FunctionDef, ast.ClassDef))]
             for wanted in INTERFACE.get(name[:-3], []):

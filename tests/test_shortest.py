@@ -5,9 +5,8 @@ from primetalks.books import Book
 from primetalks.errors import BadBook, BadNumber, BadRow, BadWord, NotShortest
 from primetalks.logs import ends_by
 from primetalks.norms import norm
-from primetalks.shortest import count_shortest, shortest_at, shortest_end, shortest_number, shortest_rules
+from primetalks.shortest import count_shortest, sets_for, shortest_at, shortest_end, shortest_number
 from primetalks.steps import lessening
-from primetalks.wordsets import sets_of_talks
 from tests.samples import BAD_LETTERS, TalkCase, any_objects, book_b, no_lists, random_row, small_books
 
 
@@ -128,9 +127,9 @@ class ShortestTest(TalkCase):
                                  count_shortest(book, row) * count_shortest(book, other))
 
     def test_sets_with_the_same_words_are_equal(self):
-        lots, sets = sets_of_talks(shortest_rules(unary_book(), ("l80",)))
-        self.assertEqual(len(lots.parts), 1)
-        self.assertEqual({name: len(sets[name]) for name in sets},
+        known = sets_for(unary_book(), ("l80",))
+        self.assertEqual(len(known.lots.parts), 1)
+        self.assertEqual({name: len(known.sets[name]) for name in known.sets},
                          {"k1": 1, "k2": 2, "k4": 4, "k8": 8, "l16": 16, "l32": 32, "l64": 64, "l80": 80})
 
     def test_numbers_that_are_none(self):
