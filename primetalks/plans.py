@@ -50,7 +50,7 @@ def pairs_of(plan):
 
 def entry_fault(book, pairs, own, entry):
     """What is wrong of an entry with its own index, pairs being those of all entries; None if nothing is."""
-    _, _, side, (letter, to), indexes = entry
+    side, (letter, to), indexes = entry[2:]
     mover = pairs[own][side]
     rule = (letter, tuple(to))
     if not mover or rule not in book.rule_table[mover[0]]:

@@ -23,8 +23,9 @@ def table_fault(book, thing):
         moved = [other for other in row if table[other] != (other,)]
         if moved:
             return ("self", name, moved[0])
-    for name in table:
-        fault = talk_fault(book, table, name)
+    for name, row in table.items():
+        # what stands for itself goes just by its rules
+        fault = talk_fault(book, table, name) if row != (name,) else None
         if fault is not None:
             return fault
     return None
