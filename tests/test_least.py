@@ -151,7 +151,7 @@ class LeastBookTest(TalkCase):
                 seen[same] += row != other
         self.assertTrue(min(seen.values()) > 20, seen)
 
-    def test_equal_across_books(self):
+    def test_rows_of_two_books_with_equal_least_books_are_alike(self):
         rng = random.Random(543)
         seen = {True: 0, False: 0}
         books = [book for book in many_books() if len(book.talks()) <= 3]
@@ -159,10 +159,19 @@ class LeastBookTest(TalkCase):
             second = rng.choice(books)
             for row in all_rows(book, 1):
                 for last in all_rows(second, 1):
-                    same = alike_across(book, row, second, last)
-                    self.assertIs(least_book(book, row) == least_book(second, last), same)
+                    same = least_book(book, row) == least_book(second, last)
+                    if same:
+                        self.assertIs(alike_across(book, row, second, last), True)
                     seen[same] += row != []
         self.assertTrue(min(seen.values()) > 5, seen)
+
+    def test_primes_hang_on_the_book(self):
+        # k is q and r there; alone it is prime, as no row is what q is
+        book = Book([("k", [("a", ["r"]), ("a", ["r", "r"])]), ("q", [("a", []), ("a", ["r"])]), ("r", [("a", [])])])
+        alone = Book([("k", book.rules("k")), ("r", book.rules("r"))])
+        self.assertIs(alike_across(book, ["k"], alone, ["k"]), True)
+        self.assertEqual(least_book(book, ["k"])[1], ["p1", "p0"])
+        self.assertEqual(least_book(alone, ["k"])[1], ["p1"])
 
     def test_what_holds_of_least_and_prime_books(self):
         rng = random.Random(544)
