@@ -2,6 +2,7 @@
 
 from heapq import heappop, heappush
 
+from primetalks.covering import counts_from, number_of_way, way_by_number
 from primetalks.errors import BadNumber, BadRows, BadString
 from primetalks.forms import is_list, is_number, is_pair
 from primetalks.given import given_book, is_row
@@ -89,38 +90,14 @@ def count_strings(book, rows, row):
     return counts_from(words, given_prime_word(book, row))[0]
 
 
-def counts_from(words, whole):
-    """The list of how many strings give what is left of a word behind each number of primes."""
-    counts = [0] * len(whole) + [1]
-    for at in range(len(whole) - 1, -1, -1):
-        counts[at] = sum([counts[at + len(word)] for _, word in words_at(words, whole, at)])
-    return counts
-
-
-def words_at(words, whole, at):
-    """The list of the pairs of an index and its word, for all words that stand at a place of a whole one."""
-    return [(index, word) for index, word in enumerate(words) if whole[at:at + len(word)] == word]
-
-
 def string_at(book, rows, row, number):
     """The string with an index among those that give row's word, as lists compare."""
     given_book(book)
     words = given_words(book, rows)
     whole = given_prime_word(book, row)
-    counts = counts_from(words, whole)
-    if not is_number(number) or number >= counts[0]:
+    if not is_number(number) or number >= counts_from(words, whole)[0]:
         raise BadNumber(number)
-    string = []
-    at = 0
-    while at < len(whole):
-        for index, word in words_at(words, whole, at):
-            here = counts[at + len(word)]
-            if number < here:
-                string.append(index)
-                at = at + len(word)
-                break
-            number = number - here
-    return string
+    return way_by_number(words, whole, number)
 
 
 def string_number(book, rows, row, string):
@@ -130,10 +107,4 @@ def string_number(book, rows, row, string):
     whole = given_prime_word(book, row)
     if not is_string(words, string) or word_given(words, string) != whole:
         raise BadString(string)
-    counts = counts_from(words, whole)
-    number = 0
-    at = 0
-    for own in string:
-        number = number + sum([counts[at + len(word)] for index, word in words_at(words, whole, at) if index < own])
-        at = at + len(words[own])
-    return number
+    return number_of_way(words, whole, string)

@@ -10,13 +10,17 @@ from primetalks.wordsets import TalkSets
 def shortest_end(book, row):
     """The first of the shortest words of a row."""
     given_book(book)
-    start = given_row(book, row)
+    return first_end(book, given_row(book, row))
+
+
+def first_end(book, row):
+    """The first of the shortest words of what surely is a row of the book."""
     firsts = book.kept.setdefault("firsts", {})
-    lacking = lacking_rules(book, start, firsts)
+    lacking = lacking_rules(book, row, firsts)
     for name, rules in lacking.items():
         # all of these are equally long, so that the first one is put together of first ones
         firsts[name] = min([[letter] + one_behind_another(firsts, to) for letter, to in rules])
-    return one_behind_another(firsts, start)
+    return one_behind_another(firsts, row)
 
 
 def count_shortest(book, row):

@@ -22,11 +22,21 @@ def mirrored_letter(letter):
 def is_simple(book):
     """Whether no talk has two rules with one letter."""
     given_book(book)
-    return all([len({letter for letter, _ in rules}) == len(rules) for rules in book.rule_table.values()])
+    return all([letters_are_unlike(rules) for rules in book.rule_table.values()])
+
+
+def letters_are_unlike(rules):
+    """Whether no two of a talk's rules have one letter."""
+    return len({letter for letter, _ in rules}) == len(rules)
 
 
 def is_sided(book):
     """Whether each talk's letters are all said, or all heard."""
     given_book(book)
-    return all([all([letter[0] == "!" for letter, _ in rules]) or all([letter[0] == "?" for letter, _ in rules])
-                for rules in book.rule_table.values()])
+    return all([are_one_sided(rules) for rules in book.rule_table.values()])
+
+
+def are_one_sided(rules):
+    """Whether the letters of a talk's rules are all said, or all heard."""
+    signs = [letter[0] for letter, _ in rules]
+    return all([sign == "!" for sign in signs]) or all([sign == "?" for sign in signs])

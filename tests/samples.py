@@ -6,7 +6,7 @@ import unittest
 from itertools import product
 
 from primetalks.books import Book
-from primetalks.errors import BadBook, NoTalk, TalkError
+from primetalks.errors import BadBook, BadWord, NoTalk, NotSimple, TalkError
 from primetalks.programs import Program
 
 B_TALKS = [
@@ -271,14 +271,23 @@ class TalkCase(unittest.TestCase):
                 self.refused(error, held, work, *passed.values())
                 self.refused(error, held, work, **{other: passed[other] for other in names[::-1]})
 
-    def bad_rows(self, error, work, right, name):
-        """Check that work refuses what is no row of B in the place of one of its right arguments."""
+    def bad_rows(self, error, work, right, name, talk="x"):
+        """Check that work refuses what is no row in the place of one of its right arguments; talk is one of the book."""
         for thing in no_lists():
             self.refused(error, {"index": 0}, work, **{**right, name: thing})
-        for thing in any_objects() + ["nobody", "X", ["x"]]:
-            if thing != "x":
+        for thing in any_objects() + ["nobody", "X", [talk]]:
+            if not isinstance(thing, str) or thing != talk:
                 self.refused(error, {"index": 0}, work, **{**right, name: [thing]})
-                self.refused(error, {"index": 2}, work, **{**right, name: ("x", "y", thing, thing)})
+                self.refused(error, {"index": 2}, work, **{**right, name: (talk, talk, thing, thing)})
+
+    def bad_words(self, work, right):
+        """Check that work refuses what is no word in the place of its right one."""
+        for thing in no_lists():
+            self.refused(BadWord, {"index": 0}, work, **{**right, "word": thing})
+        for thing in BAD_LETTERS + any_objects():
+            if not isinstance(thing, str) or thing in BAD_LETTERS:
+                self.refused(BadWord, {"index": 0}, work, **{**right, "word": [thing]})
+                self.refused(BadWord, {"index": 1}, work, **{**right, "word": ("!a", thing, "a", thing)})
 
     def bad_numbers(self, error, work, right, name, over=None):
         """Check that work refuses what is no number, or none below over, in the place of a right argument."""
@@ -286,6 +295,14 @@ class TalkCase(unittest.TestCase):
             number = isinstance(thing, int) and not isinstance(thing, bool) and thing >= 0
             if not number or over is not None and thing >= over:
                 self.refused(error, {"thing": thing}, work, **{**right, name: thing})
+
+    def only_simple(self, work, *behind):
+        """Check that work refuses books that are not simple, by their first such talk, ahead of all but BadBook."""
+        self.no_books(work, *behind)
+        self.refused(NotSimple, {"name": "u"}, work, book_b(), *behind)
+        book = Book([("x", [("!a", []), ("?a", []), ("a", [])]), ("z", [("a", []), ("a", ["z"])]),
+                     ("y", [("!b", []), ("!b", ["x"]), ("b", [])])])
+        self.refused(NotSimple, {"name": "y"}, work, book, *behind)
 
     def told_anew(self, work, *passed):
         """Check that what work tells is told anew each time and has no part in two places."""
@@ -295,3 +312,56 @@ class TalkCase(unittest.TestCase):
         self.assertFalse(shared_parts([first, second]))
         spoil(first)
         self.assertEqual(work(*passed), second)
+
+
+def simple_talks(rng, many, letters="abc", most_row=2):
+    """The pairs of a small simple book whose talks can all end."""
+    names = ["p", "q", "r", "s", "t", "u"][:many]
+    talks = []
+    for at, name in enumerate(names):
+        own = rng.sample(letters, rng.randint(1, len(letters)))
+        rows = [[rng.choice(names) for _ in range(rng.randint(0, most_row))] for _ in own]
+        # the first rule goes down to talks ahead alone, so that all can end
+        rows[0] = [rng.choice(names[:at]) for _ in range(rng.randint(0, most_row))] if at else []
+        talks.append((name, list(zip(own, rows))))
+    rng.shuffle(talks)
+    return talks
+
+
+def simple_books(many, seed, **shape):
+    """Many small simple books, the same ones each time."""
+    rng = random.Random(seed)
+    return [Book(simple_talks(rng, rng.randint(1, 4), **shape)) for _ in range(many)]
+
+
+def composed_simple_books(many, seed):
+    """Many small simple books, some talks of which are alike to rows of others, the same ones each time."""
+    return [book for book in composed_books(6 * many, seed, letters="ab", most_rules=2)
+            if all(len({letter for letter, _ in rules}) == len(rules) for _, rules in book.talks())][:many]
+
+
+def finished_words(book, row, most):
+    """All finished words of a row with at most so many letters, by all steps, shorter ones first, then ascending."""
+    found = []
+    here = {(): [tuple(row)]}
+    for _ in range(most + 1):
+        found.extend([list(word) for word in sorted(here) if () in here[word]])
+        longer = {}
+        for word, rows in here.items():
+            for start in rows:
+                for letter, to in book.rules(start[0]) if start else []:
+                    longer.setdefault(word + (letter,), []).append(tuple(to) + start[1:])
+        # whoever has more talks than letters are left cannot end in time
+        here = {word: [to for to in rows if len(to) <= most - len(word)] for word, rows in longer.items()}
+    return found
+
+
+def talk_words(rng, book, row, most):
+    """A word of a row by steps at random, up to most letters, that may break off, and the row that is left."""
+    word = []
+    at = list(row)
+    while at and len(word) < most:
+        letter, to = rng.choice(book.rules(at[0]))
+        word.append(letter)
+        at = to + at[1:]
+    return word, at

@@ -14,6 +14,7 @@ items join keys ljust lower lstrip partition pop remove replace reverse rfind rj
 split splitlines startswith strip update upper values zfill bit_length""".split()
 BARRED = """register mro elements open input law version_info with_traceback add_note type typing enum Enum namedtuple
 dataclass overload contextmanager globals locals exec eval compile getattr setattr hasattr vars dir id""".split()
+AT_ONCE = ["list", "tuple", "dict", "sorted", "sum", "any", "all", "enumerate", "zip"]
 SPECIAL = ["__init__", "__eq__"]
 LIBRARY = {"heapq": ["heappush", "heappop"], "math": ["gcd"]}
 INTERFACE = {
@@ -40,6 +41,12 @@ INTERFACE = {
     "joining": ["joined", "renamed", "talks_from", "only_from"],
     "across": ["alike_across", "changed_talk"],
     "least": ["ranks", "least_book", "prime_book"],
+    "idle": ["idle_rules", "is_idle", "thinned"],
+    "allalike": ["count_alike", "alike_at", "alike_number", "shortest_alike"],
+    "words": ["left_by", "next_letters", "letter_fault", "is_finished", "rest_of"],
+    "spokenwords": ["spoken", "is_spoken"],
+    "counted": ["count_words", "count_apart", "word_at", "word_number"],
+    "parting": ["parting_word", "is_parting_word"],
 }
 
 
@@ -180,13 +187,13 @@ class LanguageTest(unittest.TestCase):
         for _, node, _ in nodes((ast.For, ast.comprehension)):
             iterated.append(ast.dump(node.iter))
         for _, node, _ in nodes(ast.Call):
-            if isinstance(node.func, ast.Name) and node.func.id in ("list", "tuple", "dict", "sorted", "sum", "any", "all"):
+            if isinstance(node.func, ast.Name) and node.func.id in AT_ONCE:
                 iterated.extend(ast.dump(part) for part in node.args[:1])
         for name, node, line in nodes(ast.Call):
             plain = isinstance(node.func, ast.Name) and node.func.id in ("zip", "enumerate", "reversed", "range")
             view = isinstance(node.func, ast.Attribute) and node.func.attr in ("items", "keys", "values")
             if plain or view:
-                self.assertIn(ast.dump(node), iterated, (name, line))
+                self.assertTrue(ast.dump(node) in iterated, (name, line))
 
     def test_names(self):
         every = dir(builtins)
