@@ -88,3 +88,24 @@ def body_of(marks):
 def names_done(marks):
     """The names in the dos of marks, each once, ascending."""
     return sorted({name for word, name in marks if word == "do"})
+
+
+def ways_in(marks):
+    """Two dicts: of each hear and pick its ways, and where the mark of each body goes when what is ahead is over.
+
+    The first one has for the index of a command the list of the pairs of a body's letter ("" in a pick) and the
+    index behind its mark; the second one for the index of a body's mark the index of the end of its command.
+    """
+    ways = {}
+    ends = {}
+    groups = []
+    for index, (word, name) in enumerate(marks):
+        if word in ("hear", "pick"):
+            ways[index] = []
+            groups.append(index)
+        elif word in ("on", "or"):
+            ways[groups[-1]].append((name, index + 1))
+        elif word == "end":
+            for _, first in ways[groups.pop()]:
+                ends[first - 1] = index
+    return ways, ends

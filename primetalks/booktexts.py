@@ -31,28 +31,32 @@ def book_fault(text):
 
 def parse_book(text):
     """The pairs of a name and its rules in a text, line by line."""
-    lines, feeds, wrong = scan_book(text)
+    return pass_book(Reader(text), ())
+
+
+def pass_book(reader, stops):
+    """Go over the lines of a whole book, up to one of these signs ahead of a line, and tell the pairs."""
+    lines, feeds, wrong = scan_book(reader, stops)
     stuck = first_stuck(lines)
     if stuck is not None:
         raise WrongSign(feeds[stuck])
     if wrong is not None:
         raise WrongSign(wrong)
     if names_without_rules(dict(lines)):
-        raise WrongSign(len(text))
+        raise WrongSign(reader.at)
     return lines
 
 
-def scan_book(text):
-    """The pairs of a name and its rules up to the first sign that is wrong but for what can end.
+def scan_book(reader, stops):
+    """The pairs of a name and its rules up to the first sign that is wrong but for what can end, or a stop.
 
     Told with the places of the line feeds and of this sign, None if there is none.
     """
-    reader = Reader(text)
     taken = Taken(NAME_SIGNS)
     lines = []
     feeds = []
     try:
-        while not reader.is_over():
+        while not reader.is_over() and not any([reader.is_at(sign) for sign in stops]):
             lines.append(pass_talk(reader, taken))
             feeds.append(reader.at - 1)
     except WrongSign as wrong:
@@ -102,13 +106,13 @@ def book_goes_on(text):
     """A text that read_book reads and that begins with a string; None if none does."""
     if not isinstance(text, str):
         return None
-    lines, _, wrong = scan_book(text)
+    lines, _, wrong = scan_book(Reader(text), ())
     if first_stuck(lines) is not None or wrong is not None and wrong < len(text):
         return None
     start = text[:text.rfind("\n") + 1]
     last = text[len(start):]
     whole = start + (whole_line(last, lines) if last else "")
-    lines, _, _ = scan_book(whole)
+    lines, _, _ = scan_book(Reader(whole), ())
     return whole + "".join([talk_line(name, [("a", [])]) for name in names_without_rules(dict(lines))])
 
 

@@ -5,10 +5,10 @@ from heapq import heappop, heappush
 from primetalks.forms import is_number, is_pair, is_word
 from primetalks.given import given_row
 from primetalks.norms import norms_of, row_norm
-from primetalks.primewords import prime_rules, prime_word
+from primetalks.primewords import prime_word
 from primetalks.sequences import common_start
 from primetalks.shortest import first_end
-from primetalks.simplebooks import finishing_fault, given_simple
+from primetalks.simplebooks import finishing_fault, given_simple, prime_ways
 
 BOTH = 2
 
@@ -80,7 +80,7 @@ def ways_on(book, word, one, two):
 
 def steps_by_letter(book, row):
     """The dict from letters to the prime rows to which a prime row, that is not empty, comes by them."""
-    return {letter: to + row[1:] for letter, to in prime_rules(book)[row[0]]}
+    return {letter: to + row[1:] for letter, to in prime_ways(book)[row[0]].items()}
 
 
 def is_parting_word(book, row, other, thing):

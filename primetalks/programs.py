@@ -1,6 +1,6 @@
 """Programs of procedures."""
 
-from primetalks.bodies import body_of, marks_of, names_done
+from primetalks.bodies import body_of, marks_of, names_done, ways_in
 from primetalks.errors import BadProcs, NoProc
 from primetalks.forms import is_list, is_name, is_name_row
 
@@ -9,6 +9,7 @@ class Program:
     """A program: procedures by their names, each with the row that it keeps and its body.
 
     proc_table is the ascending dict from names to pairs of a tuple of names and the marks of a body.
+    ways has for each name what ways_in tells of its marks, once it was asked for.
     """
 
     def __init__(self, procs):
@@ -17,6 +18,7 @@ class Program:
         if lacking:
             raise NoProc(lacking[0])
         self.proc_table = {name: found[name] for name in sorted(found)}
+        self.ways = {}
 
     def procs(self):
         """The ascending list of the triples (name, row, body)."""
@@ -24,6 +26,13 @@ class Program:
 
     def __eq__(self, other):
         return isinstance(other, Program) and self.proc_table == other.proc_table
+
+
+def ways_through(program, name):
+    """What ways_in tells of the marks of a procedure, not to be told but as a copy."""
+    if name not in program.ways:
+        program.ways[name] = ways_in(program.proc_table[name][1])
+    return program.ways[name]
 
 
 def read_triples(procs):

@@ -55,6 +55,11 @@ def program_fault(text):
 
 def parse_program(text):
     """The triples of a name, a row and a body in a text, line by line."""
+    return [(name, row, body) for name, row, body, _ in parse_lines(text)]
+
+
+def parse_lines(text):
+    """The same, with the list of how many signs are ahead of each command, as they stand."""
     reader = Reader(text)
     taken = Taken(NAME_SIGNS)
     procs = []
@@ -66,7 +71,8 @@ def parse_program(text):
         reader.pass_signs(" keeps ")
         row = reader.pass_row(None)
         reader.pass_signs(": ")
-        procs.append((name, row, BodyReader(reader, done).pass_body()))
+        bodies = BodyReader(reader, done)
+        procs.append((name, row, bodies.pass_body(), bodies.begins))
         reader.pass_signs("\n")
     if not all([taken.has(name) for name in done]):
         raise WrongSign(reader.at)
@@ -77,7 +83,8 @@ class BodyReader:
     """Goes over one body with a reader, however deep bodies lie within it, and notes the names of its dos.
 
     body is the body at hand; groups has for each bracket around it what stood at hand ahead of the bracket,
-    the list of its parts, and the letters that are taken there, None for a pick.
+    the list of its parts, and the letters that are taken there, None for a pick. begins has for each command,
+    as they stand, how many signs are ahead of it.
     """
 
     def __init__(self, reader, done):
@@ -85,6 +92,7 @@ class BodyReader:
         self.done = done
         self.body = []
         self.groups = []
+        self.begins = []
 
     def pass_body(self):
         """Go over the body, up to what can be of it no more, and tell it."""
@@ -100,6 +108,7 @@ class BodyReader:
     def pass_command(self):
         """Go over a command, or up to the first body in its brackets; tell whether there is one."""
         reader = self.reader
+        self.begins.append(reader.at)
         if reader.is_at("s"):
             reader.pass_signs("say ")
             self.body.append(("say", reader.pass_bare_letter()))

@@ -2,6 +2,7 @@
 
 from primetalks.errors import NotSimple
 from primetalks.given import given_book
+from primetalks.primewords import prime_rules
 from primetalks.sides import letters_are_unlike
 
 
@@ -26,6 +27,14 @@ def ways_of(book):
     if "ways" not in book.kept:
         book.kept["ways"] = {name: {letter: row for letter, row in rules} for name, rules in book.rule_table.items()}
     return book.kept["ways"]
+
+
+def prime_ways(book):
+    """The dict from the primes of a simple book to the ascending dicts from their letters to prime rows, as tuples."""
+    if "prime ways" not in book.kept:
+        book.kept["prime ways"] = {name: {letter: word for letter, word in pairs}
+                                   for name, pairs in prime_rules(book).items()}
+    return book.kept["prime ways"]
 
 
 def left_along(book, row, word):

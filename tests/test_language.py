@@ -47,6 +47,18 @@ INTERFACE = {
     "spokenwords": ["spoken", "is_spoken"],
     "counted": ["count_words", "count_apart", "word_at", "word_number"],
     "parting": ["parting_word", "is_parting_word"],
+    "checks": ["check_fault", "is_checked", "kept_lots", "gone_through", "doable"],
+    "runs": ["run", "run_fault"],
+    "together": ["together", "are_made"],
+    "audits": ["audit_table", "audit_plan", "audit_word"],
+    "programaudits": ["audit_program", "audit_pair"],
+    "sessions": ["Session"],
+    "sessiontexts": ["write_session", "read_session"],
+}
+INTERFACE_METHODS = {
+    "Book": ["talks", "rules", "__eq__"], "Program": ["procs", "__eq__"],
+    "Session": ["do", "is_question", "answer", "would", "count", "deeds", "undo", "again", "at", "copy", "trial",
+                "book", "watched", "__eq__"],
 }
 
 
@@ -157,6 +169,11 @@ class LanguageTest(unittest.TestCase):
             own = [node.name for node in tree.body if isinstance(node, (ast.FunctionDef, ast.ClassDef))]
             for wanted in INTERFACE.get(name[:-3], []):
                 self.assertIn(wanted, own)
+            for node in tree.body:
+                if isinstance(node, ast.ClassDef) and node.name in INTERFACE_METHODS:
+                    methods = [part.name for part in node.body if isinstance(part, ast.FunctionDef)]
+                    for wanted in INTERFACE_METHODS[node.name]:
+                        self.assertIn(wanted, methods)
 
     def test_statements_and_expressions(self):
         barred = (ast.GeneratorExp, ast.Lambda, ast.Global, ast.Nonlocal, ast.AsyncFunctionDef, ast.With, ast.Yield,
@@ -224,8 +241,12 @@ class LanguageTest(unittest.TestCase):
                    if isinstance(part, ast.FunctionDef)]
         taken = [name for kind in (str, int, list, dict, set, bytes) for name in dir(kind)]
         for name in methods + kept:
-            self.assertTrue(name not in taken or name in SPECIAL or name in ("count", "index"), name)
-        self.assertEqual([name for name in methods if name in kept], [])
+            self.assertTrue(name not in taken or name in SPECIAL or name in ("count", "index", "copy"), name)
+        for name, node, _ in nodes(ast.ClassDef):
+            stored = [part.attr for part in ast.walk(node) if isinstance(part, ast.Attribute)
+                      and isinstance(part.ctx, ast.Store)]
+            both = [part.name for part in node.body if isinstance(part, ast.FunctionDef) and part.name in stored]
+            self.assertEqual(both, [], (name, node.name))
         for name, node, line in nodes(ast.Call):
             if isinstance(node.func, ast.Attribute):
                 self.assertIn(node.func.attr, METHODS + own, (name, line))
