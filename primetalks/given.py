@@ -60,13 +60,21 @@ def given_number(number):
         raise BadNumber(number)
 
 
+def wrong_index(things, is_right):
+    """None for a list of right things, else the index of the first that is not, 0 for no list."""
+    if not is_list(things):
+        return 0
+    for index, thing in enumerate(things):
+        if not is_right(thing):
+            return index
+    return None
+
+
 def given_word(word):
     """A word as a list, BadWord for what is none."""
-    if not is_list(word):
-        raise BadWord(0)
-    for index, letter in enumerate(word):
-        if not is_letter(letter):
-            raise BadWord(index)
+    index = wrong_index(word, is_letter)
+    if index is not None:
+        raise BadWord(index)
     return list(word)
 
 

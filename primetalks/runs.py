@@ -2,8 +2,8 @@
 
 from primetalks.clearbooks import given_clear, given_keeping, given_proc, says
 from primetalks.errors import BadChoices, BadMost, BadTold
-from primetalks.forms import is_bare_letter, is_list, is_number
-from primetalks.given import given_program
+from primetalks.forms import is_bare_letter, is_number
+from primetalks.given import given_program, wrong_index
 from primetalks.running import Runner
 from primetalks.simplebooks import left_along, ways_of
 
@@ -51,21 +51,17 @@ def why_no_letter(stands, coming, full):
 
 def given_choices(choices):
     """Choices as a list, BadChoices for what are none."""
-    if not is_list(choices):
-        raise BadChoices(0)
-    for index, number in enumerate(choices):
-        if not is_number(number):
-            raise BadChoices(index)
+    index = wrong_index(choices, is_number)
+    if index is not None:
+        raise BadChoices(index)
     return list(choices)
 
 
 def given_told(told):
     """The letters that are told as a list, BadTold for what are none."""
-    if not is_list(told):
-        raise BadTold(0)
-    for index, letter in enumerate(told):
-        if not is_bare_letter(letter):
-            raise BadTold(index)
+    index = wrong_index(told, is_bare_letter)
+    if index is not None:
+        raise BadTold(index)
     return list(told)
 
 

@@ -3,8 +3,8 @@
 from primetalks.checks import fault_of
 from primetalks.clearbooks import given_clear, given_proc
 from primetalks.errors import BadChosen, BadOther
-from primetalks.forms import is_list, is_number
-from primetalks.given import given_program
+from primetalks.forms import is_number
+from primetalks.given import given_program, wrong_index
 from primetalks.primewords import prime_word
 from primetalks.programs import Program
 from primetalks.running import Runner
@@ -54,11 +54,9 @@ def given_other(other):
 
 def given_chosen(chosen):
     """Choices of the other side as a list, BadChosen for what are none."""
-    if not is_list(chosen):
-        raise BadChosen(0)
-    for index, number in enumerate(chosen):
-        if not is_number(number):
-            raise BadChosen(index)
+    index = wrong_index(chosen, is_number)
+    if index is not None:
+        raise BadChosen(index)
     return list(chosen)
 
 
