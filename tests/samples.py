@@ -8,6 +8,7 @@ from itertools import product
 from primetalks.books import Book
 from primetalks.errors import BadBook, BadWord, NoTalk, NotSimple, TalkError
 from primetalks.programs import Program
+from primetalks.sessions import Session
 
 B_TALKS = [
     ("r", [("b", []), ("c", [])]),
@@ -63,7 +64,7 @@ def any_objects():
     """Some objects of all kinds that may be passed where any object may."""
     return [0, 1, -1, 7, 10 ** 40, True, False, None, "", "x", "talk x: a\n", "nothing", [], (), {}, [[]], ((),),
             [None], [0], [("a",)], [("a", [], [])], ["a", []], {"x": 1}, {1: "x", (1, 2): None}, {"x": []},
-            len, lambda: 0, Book([]), book_b(), Program([]), TalkError(), NoTalk("x"), BadBook, Book]
+            len, lambda: 0, Book([]), book_b(), Program([]), Session(), TalkError(), NoTalk("x"), BadBook, Book]
 
 
 def no_lists():

@@ -264,6 +264,16 @@ class RunFaultTest(TalkCase):
         self.refused(StrangeRow, {"name": "b", "index": 1}, run_fault, book_d(), strange, None, None, None, None)
         RunTest.wrong_runs(self, run_fault, right)
 
+    def test_two_books_and_programs_in_turns(self):
+        two = Book([("ask", [("!done", ["ask"]), ("!stop", [])])])
+        say, twice = one([("say", "done")]), one([("say", "done"), ("say", "stop")])
+        for _ in range(3):
+            self.assertEqual([run_fault(book, program, "main", [], [], 9) for book in (book_d(), two)
+                              for program in (say, twice)],
+                             [None, (1, ("letter", [])), (1, ("left", ["ask"])), None])
+            self.assertEqual([run(program, "main", [], [], 9)[0] for program in (say, twice)],
+                             [["!done"], ["!done", "!stop"]])
+
 
 def all_ways(program, name):
     """All pairs of choices and letters told by which a run of a program without do goes otherwise, or stops short."""

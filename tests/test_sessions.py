@@ -580,7 +580,7 @@ class BackAndOnTest(SessionCase):
         self.assertTrue(Session() == Session())
         other.do(("rule", "x", "b", []))
         self.assertFalse(session == other)
-        for thing in any_objects():
+        for thing in [thing for thing in any_objects() if not isinstance(thing, Session)]:
             self.assertFalse(Session() == thing)
             self.assertFalse(thing == Session())
 

@@ -82,7 +82,7 @@ class WriteTest(TalkCase):
                          B_TEXT + "hold alike w z\nhold row s\nhold prime u\nwatch norm r\n")
 
     def test_no_sessions(self):
-        for thing in any_objects():
+        for thing in [thing for thing in any_objects() if not isinstance(thing, Session)]:
             self.refused(BadSession, {"thing": thing}, write_session, thing)
 
     def test_read_again(self):

@@ -127,6 +127,15 @@ class SpokenTest(TalkCase):
                 self.refused(NotFinished, {"index": index}, work, book_d(), ["reply", "ask"], word, *more)
             self.refused(NotFinished, {"index": 0}, work, Book([]), [], ["a"], *more)
 
+    def test_two_books_with_the_same_names_in_turns(self):
+        one = Book([("x", [("a", ["y"])]), ("y", [("b", [])])])
+        two = Book([("x", [("a", [])]), ("y", [("b", [])])])
+        for _ in range(3):
+            self.assertEqual(spoken(one, ["x"], ["a", "b"]), [("x", 2), ("y", 2)])
+            self.assertEqual(spoken(two, ["x", "y"], ["a", "b"]), [("x", 1), ("y", 2)])
+            self.assertIs(is_spoken(one, ["x"], ["a", "b"], [("x", 1), ("y", 2)]), False)
+            self.assertIs(is_spoken(two, ["x", "y"], ["a", "b"], [("x", 1), ("y", 2)]), True)
+
 
 if __name__ == "__main__":
     unittest.main()
