@@ -34,8 +34,9 @@ def fault_and_lots(book, program):
     for name, (_, marks) in program.proc_table.items():
         walk = LotWalk(book, kept, kept[name])
         walk.go_through(marks)
-        for place in sorted(walk.lots):
-            found[(name, place)] = walk.lots[place]
+        # places are come to in ascending order
+        for place, lot in walk.lots.items():
+            found[(name, place)] = lot
         fault = walk.wrong if walk.wrong is not None else left_fault(walk)
         if fault is not None:
             return (name,) + fault, found

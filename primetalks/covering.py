@@ -10,12 +10,10 @@ def counts_from(words, whole):
 
 
 def fewest_from(words, whole):
-    """The list of how many words the shortest way has for what is left behind each number; None for no way."""
-    fewest = [None] * len(whole) + [0]
+    """The list of how many words the shortest way has for what is left behind each number; there are ways for each."""
+    fewest = [0] * (len(whole) + 1)
     for at in range(len(whole) - 1, -1, -1):
-        behind = [fewest[at + len(word)] for _, word in words_at(words, whole, at)]
-        ways = [many for many in behind if many is not None]
-        fewest[at] = 1 + min(ways) if ways else None
+        fewest[at] = 1 + min([fewest[at + len(word)] for _, word in words_at(words, whole, at)])
     return fewest
 
 
@@ -52,7 +50,7 @@ def number_of_way(words, whole, way):
 
 
 def shortest_way(words, whole):
-    """The first, as lists compare, of the ways with the fewest words; there is one."""
+    """The first, as lists compare, of the ways with the fewest words; all single things of it are words, too."""
     fewest = fewest_from(words, whole)
     way = []
     at = 0

@@ -47,7 +47,7 @@ def with_rule(book, name, letter, row):
     if not is_list(row):
         raise BadRow(0)
     for index, thing in enumerate(row):
-        if not is_talk(book, thing) and not (isinstance(thing, str) and thing == name):
+        if not is_talk(book, thing) and thing != name:
             raise BadRow(index)
     rules = book.rule_table.get(name, ())
     rule = (letter, tuple(row))
@@ -61,7 +61,7 @@ def without_rule(book, name, letter, row):
     if not is_talk(book, name):
         raise NoTalk(name)
     rules = book.rule_table[name]
-    if not is_letter(letter) or not is_row(book, row) or (letter, tuple(row)) not in rules:
+    if not is_row(book, row) or (letter, tuple(row)) not in rules:
         raise NoRule(letter, row)
     if len(rules) == 1:
         raise LastRule(name)

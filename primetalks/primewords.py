@@ -1,13 +1,13 @@
 """The prime rows of rows, as tuples."""
 
 from primetalks.given import given_row
-from primetalks.rounds import by_norms, rounds_of, words_by
+from primetalks.rounds import by_norms, later_rounds, words_by
 from primetalks.tables import put_in
 
 
 def prime_rows(book):
     """The dict from the talks to their prime rows, not to be told but as a copy."""
-    return rounds_of(book)[-1]
+    return later_rounds(book)[-1]
 
 
 def prime_names(book):

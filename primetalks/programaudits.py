@@ -60,9 +60,9 @@ def checked_fault(book, which, text):
     wrong = fault_of(book, read_program(text))
     if wrong is None:
         return None
-    if wrong[0] == "ring" and len(wrong) == 2:
+    # one procedure may be called "ring", so that the word alone does not tell; none is called "row"
+    if len(wrong) == 2:
         return (which, line_at(text, f"proc {wrong[1][0]} keeps "), 1, "ring")
-    # no procedure is called "row", but one may be called "ring"
     if wrong[0] == "row":
         _, name, index = wrong
         line, sign = name_place(text, name, index)

@@ -35,15 +35,17 @@ def way_from(book, row, many):
 def rounds(book):
     """The list of the rounds of a book, up to the first that is the one ahead, this one too."""
     given_book(book)
-    return [told_table(table) for table in rounds_of(book)]
+    return [told_table(table) for table in [first_table(book)] + later_rounds(book)]
 
 
-def rounds_of(book):
-    """The rounds of what surely is a book, with tuples for rows, not to be told but as a copy."""
+def later_rounds(book):
+    """The rounds of what surely is a book behind T0, with tuples for rows, not to be told but as a copy."""
     if "rounds" not in book.kept:
-        tables = [first_table(book)]
-        while len(tables) < 2 or tables[-1] != tables[-2]:
+        tables = [next_table(book, None)]
+        ended = is_first_table(book, tables[0])
+        while not ended:
             tables.append(next_table(book, tables[-1]))
+            ended = tables[-1] == tables[-2]
         book.kept["rounds"] = tables
     return book.kept["rounds"]
 
@@ -59,9 +61,21 @@ def first_table(book):
     return {name: tuple(firsts * number) for name, number in norms_of(book).items()}
 
 
+def is_first_table(book, table):
+    """Whether a round is T0, which need not be written out for this, as rounds keep norms."""
+    firsts = by_norms(book)[:1]
+    return all([other in firsts for row in table.values() for other in row])
+
+
+def round_word(book, table, row):
+    """What tells the word of a row by a round from others; None stands for T0, by which it is the norm alone."""
+    return row_norm(norms_of(book), row) if table is None else put_in(table, row)
+
+
 def next_table(book, table):
-    """The table behind a table."""
-    every = {name: words_by(table, rules) for name, rules in book.rule_table.items()}
+    """The table behind a table, None standing for T0."""
+    every = {name: sorted({(letter, round_word(book, table, row)) for letter, row in rules})
+             for name, rules in book.rule_table.items()}
     less = {}
     primes = []
     found = {}
@@ -83,19 +97,20 @@ def words_by(table, rules):
 def fitting_row(book, table, found, every, less, primes, name):
     """The row of a talk that fits one of the primes ahead, the first such one; None if it fits none.
 
-    found is the next table as far as it is there; every has the pairs of all rules by table, less has by found
-    those of the rules that make the norm less.
+    found is the next table as far as it is there; every has the pairs of all rules by table, None for T0, less has
+    by found those of the rules that make the norm less.
     """
     numbers = norms_of(book)
     for prime in primes:
         rest = put_in(found, way_from(book, (name,), numbers[prime]))
-        if are_same(less[name], less[prime], rest) and are_same(every[name], every[prime], put_in(table, rest)):
+        behind = round_word(book, table, rest)
+        if are_same(less[name], less[prime], rest) and are_same(every[name], every[prime], behind):
             return (prime,) + rest
     return None
 
 
 def are_same(pairs, others, rest):
-    """Whether ascending pairs of a letter and a word are the other ones with a word behind each."""
+    """Whether ascending pairs of a letter and a word, or a norm, are the other ones with one behind each."""
     return len(pairs) == len(others) and pairs == sorted([(letter, word + rest) for letter, word in others])
 
 
@@ -104,7 +119,7 @@ def rounds_fault(book, thing):
     given_book(book)
     if not is_list(thing) or not thing or not all([is_table_form(book, table) for table in thing]):
         return ("form",)
-    right = rounds_of(book)
+    right = [first_table(book)] + later_rounds(book)
     for index, table in enumerate(thing):
         # all tables ahead are right here, so that what they ask for is what they are followed by in the rounds
         wanted = right[min(index, len(right) - 1)]
@@ -125,7 +140,7 @@ def parts_at(book, row, other):
     given_book(book)
     start = given_row(book, row)
     beside = given_row(book, other)
-    for index, table in enumerate(rounds_of(book)):
-        if put_in(table, start) != put_in(table, beside):
+    for index, table in enumerate([None] + later_rounds(book)):
+        if round_word(book, table, start) != round_word(book, table, beside):
             return index
     return None

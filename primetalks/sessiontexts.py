@@ -44,7 +44,7 @@ class QuestionLines:
 
     def __init__(self, names):
         self.begun = {}
-        for question in all_questions(sorted(names)):
+        for question in all_questions(names):
             self.enter(" ".join(question) + "\n", 1)
 
     def enter(self, end, more):
@@ -66,7 +66,7 @@ def pass_question(reader, left):
     word = WATCHING["h" if reader.is_at("h") else "w"]
     reader.pass_signs(word + " ")
     start = reader.at
-    while reader.at == start or not reader.text[start:reader.at].endswith("\n"):
+    while not reader.text[start:reader.at].endswith("\n"):
         if reader.is_over() or not left.can_begin(reader.text[start:reader.at + 1]):
             raise WrongSign(reader.at)
         reader.at += 1

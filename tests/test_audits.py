@@ -129,6 +129,7 @@ class AuditPlanTest(AuditCase):
                 ("u", "s", "u / s kk : left a t\n", ("plan", 1, 7, "talk")),
                 ("u", "s", first + "u / s : left k t kk : 0\n", ("plan", 2, 18, "talk")),
                 ("u", "s", first + "nothing / k : left a nothing\n", ("plan", 2, 11, "talk")),
+                ("u", "s", first + "u / s : left a kk t : 0\n", ("plan", 2, 16, "talk")),
                 ("u", "s", "u / s : left a t\nkk / kk : left a t\n", ("plan", 2, 1, "talk")),
                 ("u", "s", "k / s : left a t\n" + first, ("plan", 1, 1, "talk")),
                 # entries

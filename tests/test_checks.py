@@ -296,6 +296,32 @@ class GoneThroughTest(TalkCase):
         body = [("hear", [("yes", [("say", "q")]), ("no", [("say", "text")])])]
         self.assertEqual(gone_through(book, program, ["reply"], body), ("wrong", (0, 1, 0), ("over",)))
 
+    def test_lots_are_ascending(self):
+        # what is come to by a letter is ascending anew, also where it comes of rows the other way about
+        talks = [("c", [("!" + letter, ["x" + letter]) for letter in "abcdef"])]
+        talks += [("x" + letter, [("?go", ["y" + other])]) for letter, other in zip("abcdef", "fedcba")]
+        talks += [("y" + letter, [("!" + letter, [])]) for letter in "abcdef"]
+        book = Book(talks)
+        body = [("pick", [[("say", letter)] for letter in "fcebda"]), ("hear", [("go", [("do", "e")])]), ("do", "e"),
+                ("say", "a")]
+        program = Program([("main", ["c"], body[:3] + [("do", "d")]), ("e", [], []), ("d", ["c"], [("say", "a")])])
+        told = [["y" + letter] for letter in "abcdef"]
+        self.assertEqual(gone_through(book, program, ["c"], body[:3]), ("left", told))
+        self.assertEqual(gone_through(book, program, ["c"], body), ("wrong", (3,), ("letter", "a")))
+        whole = [("pick", [[("say", letter), ("hear", [("go", [("do", "e"), ("say", other)])])]
+                           for letter, other in zip("abcdef", "fedcba")])]
+        self.assertEqual(gone_through(book, program, ["c"], whole), ("left", [[]]))
+        # the first row of what a hear leads to is the least one
+        talks[6] = ("xf", [("?go", ["ya"]), ("?no", ["ya"])])
+        talks[7] = ("ya", [("!a", []), ("!b", [])])
+        wrong = body[:1] + [("hear", [("go", [("pick", [[]]), ("say", "b")]), ("no", [])])]
+        self.assertEqual(gone_through(Book(talks), program, ["c"], wrong), ("wrong", (1, 0, 1), ("letter", "b")))
+        lots = kept_lots(Book(talks[:1] + talks[1:7] + [(name, [("!z", [])] + rules) for name, rules in talks[7:]]),
+                         Program([("main", ["c"], body[:1] + [("hear", [("go", [("pick", [[]]), ("say", "z")]),
+                                                                        ("no", [("say", "z")])])])]))
+        self.assertEqual(lots[("main", (1, 0, 0))], told)
+        self.assertEqual(list(lots), sorted(lots))
+
     def test_as_the_points_have_it(self):
         rng = random.Random(701)
         kinds = []

@@ -251,7 +251,8 @@ class ErrorsTest(SessionCase):
 
     def test_no_deeds(self):
         session = session_b()
-        wrong = [("rule",), ("rule", "x", "a"), ("rule", "x", "a", [], []), ("drop", "x", "a"), ("close",), ("close", "x", 0),
+        wrong = [("x",), ("",), ("rule",), ("rule", "x", "a"), ("rule", "x", "a", [], []), ("drop", "x", "a"),
+                 ("close",), ("close", "x", 0),
                  ("watch",), ("hold", ("simple",), 0), ("free",), ("do", "x"), (["rule"], "x", "a", []), "close", ("x",) * 4,
                  ("norm", "x"), {"close": "x"}, ["close"], (None, "x"), ("Close", "x"), ((), "x"), ({}, "x")]
         for thing in any_objects() + wrong:

@@ -192,6 +192,15 @@ class ReadTest(TalkCase):
                                              (("norm", "t8"), norms[8], True), (("simple",), True, False)])
         self.assertEqual(write_session(session), text)
         self.assertEqual(session.do(("rule", "t9", "b", ["t7"])), [(("norm", "t9"), norms[8] + norms[7] + 1, norms[7] + 1)])
+        # great norms, where all talks are prime
+        lines = ["talk t0: a, b\n"]
+        for at in range(1, 9):
+            lines.append(f"talk t{at}: c {' '.join([f't{at - 1}'] * 12)}, d {' '.join([f't{at - 1}'] * 10)}\n")
+        session = read_session("".join(lines) + "watch prime t8\nhold alike t8 t7\nwatch row t6\n")
+        self.assertEqual(session.watched(), [(("prime", "t8"), True, False), (("alike", "t8", "t7"), False, True),
+                                             (("row", "t6"), ["t6"], False)])
+        self.assertGreater(session.answer(("norm", "t8")), 10 ** 8)
+        self.assertEqual(session.do(("rule", "t6", "a", [])), [])
         # all questions of forty talks
         names = [f"k{at}" for at in range(40)]
         text = "".join([f"talk {name}: a\n" for name in names])
