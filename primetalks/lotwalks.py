@@ -29,10 +29,11 @@ class LotWalk:
         for index, (word, name) in enumerate(marks):
             if word == "say":
                 self.look_here([self.say_fault(head, name) for head in self.heads()])
-                self.go_on(self.rows_by("!" + name))
+                self.go_on(self.lot_by("!" + name))
             elif word == "do":
                 part = self.kept[name]
                 self.look_here([("part", name)] if self.lacks_part(part) else [])
+                # what is left of rows that begin alike is ascending and unlike, as they are
                 self.go_on([row[len(part):] for row in self.lot])
             elif word == "hear":
                 letters = {letter: True for letter, _ in ways[index]}
@@ -54,7 +55,8 @@ class LotWalk:
 
         What is wrong of a row at a say or a hear is so by its first talk alone; and rows are ascending by these.
         """
-        return sorted({row[:1] for row in self.lot})
+        ends = [row[:1] for row in self.lot[:1] + self.lot[-1:]]
+        return ends[:1] if ends[:1] == ends[1:] else sorted({row[:1] for row in self.lot})
 
     def lacks_part(self, part):
         """Whether some row of the lot does not begin with a part."""
@@ -68,15 +70,18 @@ class LotWalk:
         if due:
             self.wrong = (place, due[0])
 
-    def go_on(self, rows):
-        """Go on behind a command with what is left, if nothing is wrong."""
+    def go_on(self, lot):
+        """Go on behind a command with the lot that is left, if nothing is wrong."""
         if self.wrong is None:
-            self.lot = sorted(set(rows))
+            self.lot = lot
             self.place[-1] += 1
 
-    def rows_by(self, letter):
-        """The rows that are come to by a letter from those rows of the lot that have it."""
-        return [self.steps[row[0]][letter] + row[1:] for row in self.lot if row and letter in self.steps[row[0]]]
+    def lot_by(self, letter):
+        """The lot that is come to by a letter from those rows of the lot that have it."""
+        into = {head[0]: self.steps[head[0]][letter] for head in self.heads() if head and letter in self.steps[head[0]]}
+        rows = [into[row[0]] + row[1:] for row in self.lot if row and row[0] in into]
+        # rows with one first talk stay ascending and unlike
+        return rows if len(into) == 1 else sorted(set(rows))
 
     def begin_bodies(self):
         """Come to the bodies of a hear or a pick."""
@@ -88,7 +93,7 @@ class LotWalk:
         self.leave_body()
         self.lot = self.groups[-1][0]
         if letter:
-            self.lot = sorted(set(self.rows_by("?" + letter)))
+            self.lot = self.lot_by("?" + letter)
         self.place[-2] += 1
         self.place[-1] = 0
 
@@ -104,7 +109,7 @@ class LotWalk:
         self.leave_body()
         _, left = self.groups.pop()
         self.place = self.place[:-2]
-        self.go_on(list(left))
+        self.go_on(sorted(left))
 
     def say_fault(self, head, letter):
         """What is wrong of a row that begins so at a say, None if nothing is."""
